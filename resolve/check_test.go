@@ -2,7 +2,6 @@ package resolve_test
 
 import (
 	"reflect"
-	"slices"
 	"strconv"
 	"strings"
 	"testing"
@@ -17,17 +16,9 @@ import (
 // wantCheck wants the error at the item where the @ stands; without one, none.
 func wantCheck(t *testing.T, s string, e api.Errno) {
 	t.Helper()
-	at := strings.Index(s, "@")
-	if (at < 0) != (e == api.OK) || strings.Count(s, "@") > 1 {
+	p, want, is := sample.Marked(s)
+	if !is || strings.Contains(s, "@") != (e != api.OK) {
 		t.Fatalf("no place of %d, or too many, in\n%s", e, s)
-	}
-	p, places := read(t, strings.Replace(s, "@", "", 1))
-	want := len(places)
-	if e != api.OK {
-		want = slices.Index(places, at)
-		if want < 0 {
-			t.Fatalf("no item at the @ of\n%s", s)
-		}
 	}
 	before := print.Program(p)
 	if n, got := resolve.Check(p); n != want || got != e {
@@ -159,7 +150,7 @@ func onlyThere() []change {
 
 func TestP7_2CheckEachItem(t *testing.T) {
 	for _, c := range onlyThere() {
-		wantCheck(t, c.in(t, whole), c.e)
+		wantCheck(t, changed(t, whole, c), c.E)
 	}
 }
 
@@ -167,18 +158,12 @@ func TestP7_2CheckEachItem(t *testing.T) {
 func TestP7_2CheckTheFirstItem(t *testing.T) {
 	pairs := 0
 	for _, c := range onlyThere() {
-		one := c.in(t, whole)
 		for _, d := range onlyThere() {
-			if strings.Contains(d.old, c.old) || strings.Contains(c.old, d.old) || strings.Count(one, d.old) != 1 {
+			both, e, is := sample.Both(whole, sample.Change(c), sample.Change(d))
+			if !is {
 				continue
 			}
-			both := strings.Replace(one, d.old, strings.Replace(d.new, "@", "#", 1), 1)
-			e, later := c.e, "#"
-			if strings.Index(both, "#") < strings.Index(both, "@") {
-				e, later = d.e, "@"
-			}
-			both = strings.Replace(both, later, "", 1)
-			wantCheck(t, strings.Replace(both, "#", "@", 1), e)
+			wantCheck(t, both, e)
 			pairs++
 		}
 	}
@@ -198,7 +183,7 @@ func TestP7_2CheckTheFirstError(t *testing.T) {
 		{"default c();", "@default nobody(1);", api.ErrNone},
 		{"emit(h);", "@emit(j); emit(j);", api.ErrNone},
 	} {
-		wantCheck(t, c.in(t, whole), c.e)
+		wantCheck(t, changed(t, whole, c), c.E)
 	}
 }
 
@@ -224,7 +209,7 @@ func TestP7_2CheckNamesOfKinds(t *testing.T) {
 		{"h.x: exact;", "isValid(h) + 1: lpm; port: lpm;", api.OK},
 		{"meta.h = 6;", "meta.h = 9w6 + 10w7; forward(isValid(h)); if (port) { }", api.OK},
 	} {
-		wantCheck(t, c.in(t, whole), c.e)
+		wantCheck(t, changed(t, whole, c), c.E)
 	}
 }
 

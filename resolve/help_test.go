@@ -48,18 +48,20 @@ control {
 deparser { emit(i); emit(h); }
 `
 
-// A change is made once in a program's text.
+// A change is sample's, in fewer words: rows of another package's type need their fields' names.
 type change struct {
-	old, new string
-	e        api.Errno
+	Old, New string
+	E        api.Errno
 }
 
-func (c change) in(t *testing.T, s string) string {
+// changed is a text in which a change is made.
+func changed(t *testing.T, s string, c change) string {
 	t.Helper()
-	if strings.Count(s, c.old) != 1 {
-		t.Fatalf("%q is there %d times", c.old, strings.Count(s, c.old))
+	s, is := sample.Change(c).In(s)
+	if !is {
+		t.Fatalf("%q is not there once", c.Old)
 	}
-	return strings.Replace(s, c.old, c.new, 1)
+	return s
 }
 
 func read(t *testing.T, s string) (api.Program, []int) {
