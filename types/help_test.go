@@ -19,49 +19,8 @@ var (
 	of, slice                            = sample.Of, sample.Slice
 )
 
-// whole is a program with nothing wrong. A name has other widths where it is of another kind, or in another header or action: f, h, w and x.
-const whole = `
-header h { bit<8> f; bit<3> g; bit<5> x; }
-header i { bit<16> f; bit<128> w; }
-metadata { bit<4> m; bit<9> h; bit<1> o; bit<127> w; bit<2> f; }
-parser {
-	state s {
-		extract(h);
-		transition select(h.f, meta.m ++ (port + 1)) {
-			1, _: t;
-			_, 13w2 &&& 3: accept;
-			8w255 &&& 15, 8191: t;
-			default: reject;
-			0 &&& 8w0, 0 &&& 13w8191: accept;
-		}
-	}
-	state t {
-		extract(i);
-		transition select(i.w, ~h.g, i.f[3:3], port) {
-			340282366920938463463374607431768211455, 3w7, _, 511: u;
-			_, 7 &&& 7, 1w1, 9w5 &&& 0: u;
-		}
-	}
-	state u { transition accept; }
-}
-action a(bit<9> x, bit<8> y) {
-	forward(x + 1);
-	h.g = y[2:0];
-	if (!isValid(i)) { meta.h = x; drop; } else { invalid i; if (y == 3 && 9 != x) { h.f = y ^ 255; } }
-}
-action b(bit<1> x) { meta.m = x ++ 3w1; forward(x); i.w = -~5; }
-action c() { }
-table t { key { h.x: exact; ~meta.m: ternary; port >> 3: lpm; } actions { a; b; c; } default a(511, 2); }
-table a { key { port - 1: lpm; } actions { c; b; } default b(1w1); }
-control {
-	apply t;
-	if (h.g == 1 || meta.h >= 2) { apply a; valid h; } else { i.f = i.f - 5; if (port < 4) { } else { meta.o = i.w[127:127]; } }
-	forward(meta.w);
-	drop;
-	meta.h = 511;
-}
-deparser { emit(i); emit(h); }
-`
+// whole is a program with nothing wrong, of whose names sample's Maker makes expressions.
+const whole = sample.Typed
 
 func wholeTree(t *testing.T) api.Program {
 	t.Helper()

@@ -5,88 +5,29 @@ import (
 	"testing"
 
 	"quillon/api"
-	"quillon/num"
 	"quillon/parse"
 	"quillon/print"
+	"quillon/sample"
 	"quillon/types"
 )
 
-// A maker makes expressions at random, always the same ones.
-type maker struct{ *rand.Rand }
+// A maker makes expressions at random, always the same ones: sample's, and some with something wrong.
+type maker struct{ sample.Maker }
 
-func pick[T any](m maker, l ...T) T { return l[m.Intn(len(l))] }
+func newMaker(seed int64) maker {
+	return maker{sample.Maker{Intn: rand.New(rand.NewSource(seed)).Intn, Action: -1}}
+}
+
+func pick[T any](m maker, l ...T) T { return sample.Pick(m.Maker, l...) }
 
 // leaf is of any type, or is not there.
 func (m maker) leaf() api.Expr { return pick(m, operands()[:27]...) }
 
-// number is one of which the width may, or may not be told.
-func (m maker) number(w int) api.Lit {
-	n := num.Cut(pick(m, num.Of(0), num.Of(1), num.Mask(128), num.Shl(num.Of(1), w-1, 128)), w)
-	return api.Lit{W: pick(m, 0, w), N: n}
-}
-
-// bits goes to a width.
-func (m maker) bits(w, depth int) api.Expr {
-	if depth == 0 || m.Intn(6) == 0 {
-		return api.Expr{Op: api.ExLit, Lit: m.number(w)}
-	}
-	own := func(w int) api.Expr { return m.own(w, depth-1) }
-	switch m.Intn(5) {
-	case 0:
-		return of(pick(m, api.ExNot, api.ExNeg), m.bits(w, depth-1))
-	case 1:
-		return of(pick(m, api.ExAdd, api.ExSub, api.ExAnd, api.ExXor, api.ExOr), own(w), m.bits(w, depth-1))
-	case 2:
-		return of(pick(m, api.ExAdd, api.ExSub, api.ExAnd, api.ExXor, api.ExOr), m.bits(w, depth-1), own(w))
-	}
-	return own(w)
-}
-
-// own is of a width of its own.
-func (m maker) own(w, depth int) api.Expr {
-	if depth <= 0 {
-		names := map[int][]api.Expr{
-			1: {meta("o")}, 2: {meta("f")}, 3: {field("h", "g")}, 4: {meta("m")}, 5: {field("h", "x")}, 8: {field("h", "f")},
-			9: {meta("h"), port()}, 16: {field("i", "f")}, 127: {meta("w")}, 128: {field("i", "w")},
-		}
-		if l := names[w]; len(l) > 0 {
-			return pick(m, l...)
-		}
-		return api.Expr{Op: api.ExLit, Lit: api.Lit{W: w, N: m.number(w).N}}
-	}
-	switch m.Intn(4) {
-	case 0:
-		lo := m.Intn(129 - w)
-		return slice(m.own(w+lo+m.Intn(129-w-lo), depth-1), w+lo-1, lo)
-	case 1:
-		if w > 1 {
-			v := 1 + m.Intn(w-1)
-			return of(api.ExCat, m.own(v, depth-1), m.own(w-v, depth-1))
-		}
-	case 2:
-		return of(pick(m, api.ExShl, api.ExShr), m.own(w, depth-1), lit(0, uint64(m.Intn(128))))
-	}
-	return m.own(w, depth-2)
-}
-
-func (m maker) truth(depth int) api.Expr {
-	w := pick(m, 1, 8, 9, 128)
-	switch {
-	case depth == 0 || m.Intn(5) == 0:
-		return valid(pick(m, "h", "i"))
-	case m.Intn(2) == 0:
-		return of(api.ExEq+uint8(m.Intn(6)), m.own(w, depth-1), m.bits(w, depth-1))
-	case m.Intn(3) == 0:
-		return of(api.ExBang, m.truth(depth-1))
-	}
-	return of(pick(m, api.ExBoth, api.ExAny), m.truth(depth-1), m.truth(depth-1))
-}
-
 // any is one that is all right, or of which some part is another one.
 func (m maker) any(w, depth int) api.Expr {
-	e := m.bits(w, depth)
+	e := m.Bits(w, depth)
 	if m.Intn(3) == 0 {
-		e = m.truth(depth)
+		e = m.Truth(depth)
 	}
 	if m.Intn(3) > 0 {
 		return e
@@ -104,7 +45,7 @@ func (m maker) any(w, depth int) api.Expr {
 }
 
 func TestP8_1OfAnyOnes(t *testing.T) {
-	p, m := wholeTree(t), maker{rand.New(rand.NewSource(8))}
+	p, m := wholeTree(t), newMaker(8)
 	met := map[any]int{}
 	for range 20000 {
 		action, w := m.Intn(4)-1, 1+m.Intn(128)
@@ -174,7 +115,7 @@ func parts(p *api.Program) (exprs []*api.Expr, numbers []*api.Lit) {
 
 // Programs some of whose expressions, numbers and kinds of keys are others.
 func TestP8_2CheckAnyPrograms(t *testing.T) {
-	m := maker{rand.New(rand.NewSource(9))}
+	m := newMaker(9)
 	met, places := map[api.Errno]int{}, map[int]int{}
 	for range 6000 {
 		p := wholeTree(t)
@@ -185,7 +126,7 @@ func TestP8_2CheckAnyPrograms(t *testing.T) {
 			case 0, 1:
 				*pick(m, exprs...) = m.any(w, m.Intn(4))
 			case 2, 3:
-				*pick(m, numbers...) = m.number(w)
+				*pick(m, numbers...) = m.Number(w)
 			case 4:
 				keys := pick(m, p.Tables...).Keys
 				keys[m.Intn(len(keys))].Kind = pick(m, api.KeyExact, api.KeyPrefix)
