@@ -54,11 +54,11 @@ func (p *parser) level(at int) api.Expr {
 	}
 	e := p.level(at + 1)
 	for {
-		op, is := p.signs.levels[at][p.next().S]
+		op, is := p.signs.levels[at][p.Next().S]
 		if !is {
 			return e
 		}
-		sign := p.take()
+		sign := p.Take()
 		e = p.signed(sign, api.Expr{Op: op, Args: []api.Expr{e, p.second(at)}})
 		if at == levelCompare {
 			return e
@@ -69,13 +69,13 @@ func (p *parser) level(at int) api.Expr {
 // second is what stands behind a sign of a level.
 func (p *parser) second(at int) api.Expr {
 	if at == levelShift {
-		return api.Expr{Op: api.ExLit, Lit: api.Lit{N: api.Num{Lo: p.bare(0, api.MaxShift, api.ErrOver)}}}
+		return api.Expr{Op: api.ExLit, Lit: api.Lit{N: api.Num{Lo: uint64(p.bare(0, api.MaxShift, api.ErrOver))}}}
 	}
 	return p.level(at + 1)
 }
 
 func (p *parser) unary() api.Expr {
-	op, is := p.signs.unary[p.next().S]
+	op, is := p.signs.unary[p.Next().S]
 	if !is {
 		return p.slice()
 	}
@@ -85,8 +85,8 @@ func (p *parser) unary() api.Expr {
 
 // opened is a bracket or a unary sign, and what is read in it.
 func (p *parser) opened(read func() api.Expr) (api.Token, api.Expr) {
-	p.need(p.open <= maxOpen, api.ErrDeep)
-	t := p.take()
+	p.Need(p.open <= maxOpen, api.ErrDeep)
+	t := p.Take()
 	p.open++
 	e := read()
 	p.open--
@@ -95,53 +95,53 @@ func (p *parser) opened(read func() api.Expr) (api.Token, api.Expr) {
 
 // signed is an expression that was made by a sign, which stands for it where it is too deep.
 func (p *parser) signed(sign api.Token, e api.Expr) api.Expr {
-	p.needAt(sign, ast.Depth(e) <= api.MaxDepth, api.ErrDeep)
+	p.NeedAt(sign, ast.Depth(e) <= api.MaxDepth, api.ErrDeep)
 	return e
 }
 
 func (p *parser) slice() api.Expr {
 	e := p.atom()
-	for p.is("[") {
-		sign := p.take()
+	for p.Is("[") {
+		sign := p.Take()
 		hi := p.bit()
-		p.want(":")
-		second := p.next()
+		p.Want(":")
+		second := p.Next()
 		lo := p.bit()
-		p.needAt(second, lo <= hi, api.ErrArg)
-		p.want("]")
+		p.NeedAt(second, lo <= hi, api.ErrArg)
+		p.Want("]")
 		e = p.signed(sign, api.Expr{Op: api.ExSlice, Hi: hi, Lo: lo, Args: []api.Expr{e}})
 	}
 	return e
 }
 
-func (p *parser) bit() int { return int(p.bare(0, api.MaxWidth-1, api.ErrOver)) }
+func (p *parser) bit() int { return p.bare(0, api.MaxWidth-1, api.ErrOver) }
 
 func (p *parser) atom() api.Expr {
 	switch {
-	case p.next().Kind == api.TokNumber:
+	case p.Next().Kind == api.TokNumber:
 		return api.Expr{Op: api.ExLit, Lit: p.number()}
-	case p.skip("port"):
+	case p.Skip("port"):
 		return api.Expr{Op: api.ExPort}
-	case p.skip("meta"):
-		p.want(".")
-		return api.Expr{Op: api.ExMeta, Name: p.name()}
-	case p.skip("isValid"):
-		p.want("(")
-		e := api.Expr{Op: api.ExValid, Head: p.name()}
-		p.want(")")
+	case p.Skip("meta"):
+		p.Want(".")
+		return api.Expr{Op: api.ExMeta, Name: p.Name()}
+	case p.Skip("isValid"):
+		p.Want("(")
+		e := api.Expr{Op: api.ExValid, Head: p.Name()}
+		p.Want(")")
 		return e
-	case p.is("("):
+	case p.Is("("):
 		_, e := p.opened(p.expr)
-		p.want(")")
+		p.Want(")")
 		return e
 	}
 	return p.named()
 }
 
 func (p *parser) named() api.Expr {
-	name := p.name()
-	if p.skip(".") {
-		return api.Expr{Op: api.ExField, Head: name, Name: p.name()}
+	name := p.Name()
+	if p.Skip(".") {
+		return api.Expr{Op: api.ExField, Head: name, Name: p.Name()}
 	}
 	return api.Expr{Op: api.ExParam, Name: name}
 }

@@ -10,6 +10,7 @@ import (
 	"quillon/ast"
 	"quillon/parse"
 	"quillon/print"
+	"quillon/sample"
 	"quillon/text"
 	"quillon/token"
 )
@@ -212,52 +213,6 @@ func (g grammar) wrong(c chart, name string, tokens []api.Token) int {
 	return -1
 }
 
-// spelt is the text of tokens, with where each begins, and where the text ends.
-func spelt(tokens []api.Token) (string, []int) {
-	var b strings.Builder
-	var at []int
-	for i, x := range tokens {
-		if i > 0 {
-			b.WriteString([]string{" ", "\n"}[i%2])
-		}
-		at = append(at, b.Len())
-		b.WriteString(x.S)
-	}
-	return b.String(), append(at, b.Len())
-}
-
-// strays are tokens of each word and mark, a name and numbers.
-func strays(t *testing.T) []api.Token {
-	t.Helper()
-	return lexed(t, `header metadata bit parser state extract transition select accept reject default action table key actions exact lpm ternary control apply if else drop forward valid invalid deparser emit meta port isValid _
-		&&& == != <= >= << >> && || ++ -> { } ( ) [ ] ; : , = < > + - & | ^ ~ ! . / x 0 200 8w1`)
-}
-
-// A change of tokens at a place: so many of them lack, and others stand there.
-type change struct {
-	at, lack int
-	more     []api.Token
-}
-
-func (c change) of(l []api.Token) []api.Token {
-	out := append([]api.Token{}, l[:c.at]...)
-	out = append(out, c.more...)
-	return append(out, l[c.at+c.lack:]...)
-}
-
-// eachChange goes through all that one token can be done to: it lacks, another one is in its place, or ahead of it.
-func eachChange(t *testing.T, l []api.Token, do func(c change)) {
-	t.Helper()
-	more := strays(t)
-	for i := range l {
-		do(change{at: i, lack: 1})
-		for _, x := range more {
-			do(change{at: i, lack: 1, more: []api.Token{x}})
-			do(change{at: i, more: []api.Token{x}})
-		}
-	}
-}
-
 // wantByGrammar wants ErrForm where the grammar has the first wrong token. A fault of another kind may stand ahead of it, or at it; it tells whether one did.
 func wantByGrammar(t *testing.T, s string, at []int, wrong int, f api.Fault) bool {
 	t.Helper()
@@ -295,10 +250,10 @@ func TestP6_1Grammar(t *testing.T) {
 		charts = append(charts, c)
 	}
 	all, others := 0, 0
-	eachChange(t, l, func(c change) {
-		tokens := c.of(l)
-		s, at := spelt(tokens)
-		wrong := g.wrong(charts[c.at], "program", tokens[c.at:])
+	sample.EachSwap(l, sample.Strays(), func(x sample.Swap) {
+		tokens := x.In(l)
+		s, at := sample.Spelt(tokens)
+		wrong := g.wrong(charts[x.At], "program", tokens[x.At:])
 		p, places, f := parse.Program(s)
 		all++
 		if wantByGrammar(t, s, at, wrong, f) {
@@ -322,7 +277,7 @@ func TestP6_1Grammar(t *testing.T) {
 func TestP6_2Grammar(t *testing.T) {
 	g := chapterGrammar()
 	m := maker{rand.New(rand.NewSource(7))}
-	more := strays(t)
+	more := sample.Strays()
 	start := g.begin("expr")
 	for range 4000 {
 		l := lexed(t, loose(m.expr(1+m.Intn(5)), 0))
@@ -330,15 +285,15 @@ func TestP6_2Grammar(t *testing.T) {
 			continue
 		}
 		for range m.Intn(4) {
-			c := change{at: m.Intn(len(l)), lack: m.Intn(2)}
+			x := sample.Swap{At: m.Intn(len(l)), Lack: m.Intn(2)}
 			if m.Intn(3) > 0 {
-				c.more = append(c.more, more[m.Intn(len(more))])
+				x.More = append(x.More, more[m.Intn(len(more))])
 			}
-			if l = c.of(l); len(l) == 0 {
+			if l = x.In(l); len(l) == 0 {
 				break
 			}
 		}
-		s, at := spelt(l)
+		s, at := sample.Spelt(l)
 		e, f := parse.Expr(s)
 		wantByGrammar(t, s, at, g.wrong(start, "expr", l), f)
 		if f.E == api.OK && !ast.MayExpr(e) {
@@ -350,20 +305,8 @@ func TestP6_2Grammar(t *testing.T) {
 // Tokens in no order, and bytes of all kinds: each call ends with a fault at a place of the text, or with what may be.
 func TestP1Soup(t *testing.T) {
 	m := maker{rand.New(rand.NewSource(1))}
-	more := strays(t)
 	for range 20000 {
-		var s string
-		if m.Intn(2) == 0 {
-			b := make([]byte, m.Intn(60))
-			m.Read(b)
-			s = string(b)
-		} else {
-			var l []api.Token
-			for range m.Intn(30) {
-				l = append(l, more[m.Intn(len(more))])
-			}
-			s, _ = spelt(l)
-		}
+		s := sample.Soup(m.Intn)
 		e, f := parse.Expr(s)
 		if f.E == api.OK && !ast.MayExpr(e) || f.E != api.OK && !ast.SameExpr(e, api.Expr{}) {
 			t.Errorf("Expr(%q) = %v, %v", s, e, f)

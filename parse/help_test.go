@@ -2,7 +2,6 @@ package parse_test
 
 import (
 	"reflect"
-	"strings"
 	"testing"
 
 	"quillon/api"
@@ -11,7 +10,6 @@ import (
 	"quillon/print"
 	"quillon/sample"
 	"quillon/text"
-	"quillon/token"
 )
 
 var (
@@ -19,15 +17,14 @@ var (
 	of, slice                            = sample.Of, sample.Slice
 )
 
-// marked is a text without the one @ in it, and where the token behind that begins: no token has an @.
+// marked is sample's Spot of a text that has one.
 func marked(t *testing.T, s string) (string, int) {
 	t.Helper()
-	ahead, behind, _ := strings.Cut(s, "@")
-	if strings.Count(s, "@") != 1 {
+	spot, at, is := sample.Spot(s)
+	if !is {
 		t.Fatalf("not one @ in %.500q", s)
 	}
-	blanks := len(behind) - len(strings.TrimLeft(behind, " \n"))
-	return ahead + behind, len(ahead) + blanks
+	return spot, at
 }
 
 func wantExpr(t *testing.T, s string, want api.Expr) {
@@ -70,11 +67,11 @@ func wantFault(t *testing.T, s string, e api.Errno) {
 // lexed are a text's tokens, without the one behind all.
 func lexed(t *testing.T, s string) []api.Token {
 	t.Helper()
-	l, f := token.Lex(s)
-	if f != (api.Fault{}) {
-		t.Fatalf("%.500q: %v", s, f)
+	l, is := sample.Tokens(s)
+	if !is {
+		t.Fatalf("no tokens: %.500q", s)
 	}
-	return l[:len(l)-1]
+	return l
 }
 
 // A place is what stands around a part of a program's text that is to be looked at.

@@ -10,20 +10,20 @@ func (p *parser) block() []api.Stmt {
 }
 
 func (p *parser) stmt() api.Stmt {
-	p.need(p.blocks <= api.MaxBlocks, api.ErrDeep)
+	p.Need(p.blocks <= api.MaxBlocks, api.ErrDeep)
 	p.item()
-	if p.skip("if") {
+	if p.Skip("if") {
 		return p.branching()
 	}
 	s := p.plain()
-	p.want(";")
+	p.Want(";")
 	return s
 }
 
 func (p *parser) branching() api.Stmt {
 	s := api.Stmt{Kind: api.StIf, E: p.bracketedExpr()}
 	s.Then = p.block()
-	if p.skip("else") {
+	if p.Skip("else") {
 		s.Else = p.block()
 	}
 	return s
@@ -32,35 +32,35 @@ func (p *parser) branching() api.Stmt {
 // plain is a statement without blocks, up to its ; .
 func (p *parser) plain() api.Stmt {
 	switch {
-	case p.skip("apply"):
-		return api.Stmt{Kind: api.StApply, Name: p.name()}
-	case p.skip("drop"):
+	case p.Skip("apply"):
+		return api.Stmt{Kind: api.StApply, Name: p.Name()}
+	case p.Skip("drop"):
 		return api.Stmt{Kind: api.StDrop}
-	case p.skip("forward"):
+	case p.Skip("forward"):
 		return api.Stmt{Kind: api.StForward, E: p.bracketedExpr()}
-	case p.skip("valid"):
-		return api.Stmt{Kind: api.StValid, Head: p.name()}
-	case p.skip("invalid"):
-		return api.Stmt{Kind: api.StInvalid, Head: p.name()}
+	case p.Skip("valid"):
+		return api.Stmt{Kind: api.StValid, Head: p.Name()}
+	case p.Skip("invalid"):
+		return api.Stmt{Kind: api.StInvalid, Head: p.Name()}
 	}
 	return p.assignment()
 }
 
 func (p *parser) assignment() api.Stmt {
 	s := api.Stmt{Kind: api.StSet}
-	if !p.skip("meta") {
-		s.Head = p.name()
+	if !p.Skip("meta") {
+		s.Head = p.Name()
 	}
-	p.want(".")
-	s.Name = p.name()
-	p.want("=")
+	p.Want(".")
+	s.Name = p.Name()
+	p.Want("=")
 	s.E = p.expr()
 	return s
 }
 
 func (p *parser) bracketedExpr() api.Expr {
-	p.want("(")
+	p.Want("(")
 	e := p.expr()
-	p.want(")")
+	p.Want(")")
 	return e
 }
