@@ -8,73 +8,34 @@ import (
 	"quillon/api"
 	"quillon/lower"
 	"quillon/num"
+	"quillon/sample"
 	"quillon/text"
 	"quillon/token"
 )
 
 // The chapter's text as places, each with what may stand there and the place behind that.
 const places = `
-between   NAME switch    END end
+between   <name> switch    <end> end
 switch    . point
-point     NAME table
+point     <name> table
 table     : colon
-colon     _ any          NUMBER value
+colon     _ any          <number> value
 any       , comma        prio prio     -> arrow
 value     , comma        prio prio     -> arrow    / slash    &&& and
-slash     NUMBER length
+slash     <number> length
 length    , comma        prio prio     -> arrow
-and       NUMBER mask
+and       <number> mask
 mask      , comma        prio prio     -> arrow
-comma     _ any          NUMBER value
-prio      NUMBER priority
+comma     _ any          <number> value
+prio      <number> priority
 priority  -> arrow
-arrow     NAME action
+arrow     <name> action
 action    ( open
-open      ) close        NUMBER argument
+open      ) close        <number> argument
 argument  ) close        , again
-again     NUMBER argument
+again     <number> argument
 close     ; between
 `
-
-// ways are of each place the ones that a token leads to.
-func ways() map[string]map[string]string {
-	m := map[string]map[string]string{}
-	for line := range strings.Lines(places) {
-		if l := strings.Fields(line); len(l) > 0 {
-			m[l[0]] = map[string]string{}
-			for i := 1; i < len(l); i += 2 {
-				m[l[0]][l[i]] = l[i+1]
-			}
-		}
-	}
-	return m
-}
-
-// follow tells of each token the place that it leads to, up to the first one that may not be where it is.
-func follow(tokens []api.Token) []string {
-	m, at := ways(), "between"
-	var l []string
-	for _, x := range tokens {
-		class := "END"
-		switch {
-		case x.Kind == api.TokNumber:
-			class = "NUMBER"
-		case token.IsName(x.S):
-			class = "NAME"
-		case x.S != "":
-			class = ""
-		}
-		to, is := m[at][x.S]
-		if !is || x.S == "" {
-			to, is = m[at][class]
-		}
-		if !is {
-			return l
-		}
-		l, at = append(l, to), to
-	}
-	return l
-}
 
 // A found fault: at which token, of which kind, and when: at the token i it is 2i, and 2i+1 once a pattern that ends with it is read. Those of one time stand in the chapter's order.
 type found struct {
@@ -104,7 +65,7 @@ func reckonedRead(p api.Prog, switches []string, s string) ([][]api.Entry, api.F
 	if f.E != api.OK {
 		return nil, f
 	}
-	r := &reckoner{p: p, switches: switches, tokens: tokens, places: follow(tokens), lists: make([][]api.Entry, len(switches))}
+	r := &reckoner{p: p, switches: switches, tokens: tokens, places: sample.Follow(places, tokens), lists: make([][]api.Entry, len(switches))}
 	known := true
 	for i := range r.places {
 		if known = known && r.look(i); !known {

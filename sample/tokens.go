@@ -1,6 +1,7 @@
 package sample
 
 import (
+	"slices"
 	"strings"
 
 	"quillon/api"
@@ -86,4 +87,57 @@ func Soup(intn func(n int) int) string {
 	}
 	s, _ := Spelt(l)
 	return s
+}
+
+// Follow tells of each token the place that it leads to, up to the first one that may not be where it is. Of each place the grammar has a line: its name, and by twos what may stand there (a token, <name>, <number> or <end>) and the place behind that. A text begins at the first line's place.
+func Follow(grammar string, tokens []api.Token) []string {
+	rows := rowsOf(grammar)
+	var places []string
+	at := 0
+	for _, x := range tokens {
+		to := leadsTo(rows[at], x)
+		if to == "" {
+			break
+		}
+		places = append(places, to)
+		at = slices.IndexFunc(rows, func(row []string) bool { return row[0] == to })
+		if at < 0 {
+			break
+		}
+	}
+	return places
+}
+
+func rowsOf(grammar string) [][]string {
+	var rows [][]string
+	for line := range strings.Lines(grammar) {
+		if row := strings.Fields(line); len(row) > 0 {
+			rows = append(rows, row)
+		}
+	}
+	return rows
+}
+
+// leadsTo is the place behind a token; none, if it may not be there. A token that stands in the row itself goes ahead of its class.
+func leadsTo(row []string, x api.Token) string {
+	for _, what := range []string{x.S, classOf(x)} {
+		for i := 1; i < len(row); i += 2 {
+			if row[i] == what {
+				return row[i+1]
+			}
+		}
+	}
+	return ""
+}
+
+func classOf(x api.Token) string {
+	switch {
+	case x.Kind == api.TokEnd:
+		return "<end>"
+	case x.Kind == api.TokNumber:
+		return "<number>"
+	case token.IsName(x.S):
+		return "<name>"
+	}
+	return x.S
 }
