@@ -7,23 +7,11 @@ import (
 
 	"quillon/api"
 	"quillon/bdd"
+	"quillon/sample"
 )
 
 // spread are the variables of stores made by chance.
 var spread = []int{0, 1, 2, 31, 62, 63}
-
-// settings are all bits of the spread variables.
-func settings() [][]bool {
-	var all [][]bool
-	for n := range 1 << len(spread) {
-		bits := make([]bool, 64)
-		for i, v := range spread {
-			bits[v] = n>>i&1 == 1
-		}
-		all = append(all, bits)
-	}
-	return all
-}
 
 // A pair is a store, and a second reckoning of it.
 type pair struct {
@@ -115,7 +103,7 @@ func TestP15_1Chance(t *testing.T) {
 
 func TestP15_2Chance(t *testing.T) {
 	r := rand.New(rand.NewSource(152))
-	all := settings()
+	all := sample.Settings(spread...)
 	for range 150 {
 		x := chance(t, r, 20+r.Intn(100), 60)
 		for a := range x.s.Len() + 2 {
@@ -141,7 +129,7 @@ func TestP15_2Chance(t *testing.T) {
 // Least of all variables, held against what is less bit by bit: no setting of the spread ones that is so is less.
 func TestP15_2LeastByChance(t *testing.T) {
 	r := rand.New(rand.NewSource(153))
-	all := settings()
+	all := sample.Settings(spread...)
 	slices.SortFunc(all, lessBits)
 	for range 300 {
 		x := chance(t, r, 200, 40)
@@ -171,7 +159,7 @@ func lessBits(a, b []bool) int {
 // Two diagrams are the same just if they are so under all bits; Lo and Hi have greater variables, and lesser numbers.
 func TestP15_1SameJustIfSo(t *testing.T) {
 	r := rand.New(rand.NewSource(154))
-	all := settings()
+	all := sample.Settings(spread...)
 	for range 200 {
 		x := chance(t, r, 300, 80)
 		seen := map[uint64]int{}

@@ -1,13 +1,13 @@
 package bdd_test
 
 import (
-	"math"
 	"math/rand"
 	"slices"
 	"testing"
 
 	"quillon/api"
 	"quillon/bdd"
+	"quillon/sample"
 )
 
 // store is a store of that cap.
@@ -51,7 +51,7 @@ func wantsRows(t *testing.T, s *bdd.Store, want ...api.Branchy) {
 }
 
 // odd are numbers that are no diagram, or no variable, of small stores.
-var odd = []int{-1, -2, math.MinInt, math.MinInt + 3, math.MaxInt, 1 << 20, 1<<20 + 2, 1 << 31, 1<<32 + 1, 1<<32 + 2, -1 << 32, 2 - 1<<32}
+var odd = sample.NoDiagrams()
 
 // bitsOf are 64 bits, the variable 0's the highest one of so many.
 func bitsOf(setting uint64, vars int) []bool {
@@ -69,15 +69,6 @@ func someBits(r *rand.Rand, many int) []bool {
 		bits[v] = r.Intn(2) == 1
 	}
 	return bits
-}
-
-// parity is whether an odd number of these variables is true.
-func parity(s *bdd.Store, first, behind int) int {
-	a := 0
-	for v := behind - 1; v >= first; v-- {
-		a = s.Xor(s.Var(v), a)
-	}
-	return a
 }
 
 func isOdd(bits []bool) bool {

@@ -8,6 +8,7 @@ import (
 
 	"quillon/api"
 	"quillon/bdd"
+	"quillon/sample"
 )
 
 func wantsLeast(t *testing.T, s *bdd.Store, a, vars int, want []bool) {
@@ -143,7 +144,7 @@ func TestP15_2Size(t *testing.T) {
 	for _, none := range append([]int{s.Len() + 2}, odd...) {
 		wants(t, "Size of none", s.Size(none), 0)
 	}
-	wants(t, "Size of all variables' parity", s.Size(parity(s, 0, 64)), 127)
+	wants(t, "Size of all variables' parity", s.Size(sample.Parity(s, 0, 64)), 127)
 }
 
 func TestP15_2LenAndFull(t *testing.T) {
@@ -164,13 +165,13 @@ func TestP15_2LenAndFull(t *testing.T) {
 // Ways to a node may be more than can be gone: each node is gone through once.
 func TestP15_2ManyWays(t *testing.T) {
 	s := store(t, 4000)
-	odd := parity(s, 0, 64)
+	odd := sample.Parity(s, 0, 64)
 	wantsLeast(t, s, odd, 64, append(make([]bool, 63), true))
 	wants(t, "Holds", s.Holds(odd, []bool{true, true, true}), true)
-	wants(t, "Under", s.Under(s.Under(odd, 63, true), 63, false), s.Not(parity(s, 0, 63)))
+	wants(t, "Under", s.Under(s.Under(odd, 63, true), 63, false), s.Not(sample.Parity(s, 0, 63)))
 	// Of those of the first 63 alone none is so.
-	wantsNone(t, s, s.And(parity(s, 0, 63), s.Var(63)), 63)
-	wantsLeast(t, s, s.And(parity(s, 0, 63), s.Var(63)), 64, append(make([]bool, 62), true, true))
+	wantsNone(t, s, s.And(sample.Parity(s, 0, 63), s.Var(63)), 63)
+	wantsLeast(t, s, s.And(sample.Parity(s, 0, 63), s.Var(63)), 64, append(make([]bool, 62), true, true))
 	wants(t, "Xor of both", s.Xor(s.Not(odd), odd), 1)
 	wants(t, "And of both", s.And(odd, s.Not(odd)), 0)
 	r := rand.New(rand.NewSource(15))
